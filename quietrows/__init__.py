@@ -1,0 +1,1 @@
+"""Quietrows: what rows of debouncers tell, and when two of them do the same."""

@@ -1,0 +1,220 @@
+"""[2] the conventions and the interface, for each class and function of the modules there are."""
+
+import copy
+import inspect
+import unittest
+
+from quietrows import errors, forms, members, rows
+from quietrows.errors import BadForm, BadRow, BadStream, QuietError
+from quietrows.forms import Normal, idle_members, is_contained, normal_form, row_of, same_rows
+from quietrows.members import Delay, First, Last, Limit, check_stream
+from quietrows.rows import Row, Told, told_events, told_times
+
+INTERFACE = {
+    members: {"check_stream": ["stream"], "Last": ["q"], "First": ["q"], "Limit": ["q"], "Delay": ["d"]},
+    rows: {"Row": ["members"], "Told": ["number", "time", "first", "last"],
+           "told_events": ["row", "stream"], "told_times": ["row", "stream"]},
+    forms: {"Normal": ["records", "delay"], "normal_form": ["row"], "row_of": ["form"],
+            "same_rows": ["row", "other"], "idle_members": ["row"], "is_contained": ["row", "other"]},
+}
+
+
+def sample_row():
+    return Row([Delay(1), Last(3), First(3), Last(5), First(1)])
+
+
+def samples():
+    """Objects of all classes, none equal to another one."""
+    return [
+        Last(3), Last(4), First(3), First(4), Limit(3), Limit(4), Delay(3), Delay(4),
+        Row([]), Row([Last(3)]), Row([First(3)]), Row([Last(3), First(3)]), Row([First(3), Last(3)]),
+        Told(1, 2, 3, 4), Told(0, 2, 3, 4), Told(1, 0, 3, 4), Told(1, 2, 0, 4), Told(1, 2, 3, 0),
+        Normal((), 0), Normal((), 3), Normal((("last", 3),), 3), Normal((("last", 4),), 3), Normal((("first", 3),), 3),
+        Normal((("last", 3),), 4),
+    ]
+
+
+class Interface(unittest.TestCase):
+
+    def test_names_and_arguments_in_order(self):
+        for module, listed in INTERFACE.items():
+            for name, names in listed.items():
+                with self.subTest(name):
+                    parameters = inspect.signature(getattr(module, name)).parameters.values()
+                    self.assertEqual([one.name for one in parameters], names)
+                    for one in parameters:
+                        self.assertEqual((one.kind, one.default), (one.POSITIONAL_OR_KEYWORD, one.empty))
+
+    def test_each_is_defined_in_the_file_under_which_it_is_listed(self):
+        for module, listed in INTERFACE.items():
+            for name in listed:
+                self.assertEqual(getattr(module, name).__module__, module.__name__)
+
+    def test_arguments_by_keyword(self):
+        row = Row(members=[Last(q=3), First(q=3), Limit(q=4), Delay(d=2)])
+        self.assertEqual(row, Row([Last(3), First(3), Limit(4), Delay(2)]))
+        self.assertIsNone(check_stream(stream=[0]))
+        self.assertEqual(told_events(stream=[0], row=row), [Told(last=0, first=0, time=5, number=0)])
+        self.assertEqual(told_times(stream=[0], row=row), [5])
+        form = Normal(delay=5, records=[["last", 3], ["limit", 4]])
+        self.assertEqual(normal_form(row=row), form)
+        self.assertEqual(row_of(form=form), Row([Last(3), Limit(4), Delay(2)]))
+        self.assertEqual(idle_members(row=row), [1, 3])
+        self.assertIs(same_rows(other=row, row=Row([])), False)
+        self.assertIs(is_contained(other=Row([]), row=Row([Last(3)])), True)
+
+    def test_fields_are_named_as_the_parameters(self):
+        self.assertEqual(vars(Last(3)), {"q": 3})
+        self.assertEqual(vars(First(3)), {"q": 3})
+        self.assertEqual(vars(Limit(3)), {"q": 3})
+        self.assertEqual(vars(Delay(3)), {"d": 3})
+        self.assertEqual(vars(Row([Last(3)])), {"members": (Last(3),)})
+        self.assertEqual(vars(Told(1, 2, 3, 4)), {"number": 1, "time": 2, "first": 3, "last": 4})
+        self.assertEqual(vars(Normal((("last", 3),), 4)), {"records": (("last", 3),), "delay": 4})
+
+
+class Arguments(unittest.TestCase):
+
+    def test_sequences_are_kept_as_tuples_also_inside(self):
+        self.assertEqual(repr(Normal([["last", 3], ("first", 4)], 3).records), "(('last', 3), ('first', 4))")
+        self.assertEqual(repr(Normal([[["a", []]]], 3).records), "((('a', ()),),)")
+        self.assertEqual(repr(Normal([], [1, [2]]).delay), "(1, (2,))")
+        self.assertIs(type(Row([Last(3)]).members), tuple)
+        self.assertEqual(repr(normal_form(sample_row()).records), "(('last', 3), ('last', 5))")
+
+    def test_later_changes_of_lists_have_no_effect(self):
+        given = [Last(3)]
+        row = Row(given)
+        given.append(First(9))
+        given[0] = Delay(1)
+        self.assertEqual(row, Row([Last(3)]))
+        records = [["last", 3], ["first", 4]]
+        form = Normal(records, 3)
+        records[0][1] = 5
+        records.pop()
+        self.assertEqual(form.records, (("last", 3), ("first", 4)))
+
+    def test_arguments_are_never_changed(self):
+        stream, given = [0, 1, 5, 9], [Delay(1), Last(3), First(3)]
+        row, form, records = Row(given), Normal([["last", 3]], 4), [["last", 3]]
+        before = copy.deepcopy((stream, given, row, form, records))
+        check_stream(stream)
+        told_events(row, stream)
+        told_times(row, stream)
+        normal_form(row)
+        row_of(form)
+        same_rows(row, row)
+        idle_members(row)
+        is_contained(row, row)
+        Normal(records, 3)
+        self.assertEqual((stream, given, row, form, records), before)
+        self.assertEqual(type(records[0]), list)
+
+    def test_calls_that_raise_change_nothing(self):
+        stream, given, row = [0, 2, 2], [Last(3), None], sample_row()
+        form = Normal([["last", 3]], 2)
+        before = (list(stream), list(given), copy.deepcopy(row), copy.deepcopy(form))
+        for call, arguments in ((check_stream, [stream]), (told_events, [row, stream]), (told_times, [row, stream]),
+                                (Row, [given]), (row_of, [form]), (is_contained, [Row([Limit(3)]), row])):
+            with self.assertRaises(QuietError):
+                call(*arguments)
+        self.assertEqual((stream, given, row, form), before)
+
+    def test_an_object_stays_as_it_is_when_made_anew_wrongly(self):
+        for made, again, error in ((Last(3), 0, errors.BadMember), (First(3), 0, errors.BadMember),
+                                   (Limit(3), True, errors.BadMember), (Delay(3), -1, errors.BadMember),
+                                   (Row([Last(3)]), [Last(4), 5], BadRow)):
+            before = copy.deepcopy(made)
+            with self.assertRaises(error):
+                made.__init__(again)
+            self.assertEqual(made, before)
+
+    def test_lists_and_tuples_are_accepted_alike(self):
+        stream = [0, 1, 5, 9]
+        row = Row(list(sample_row().members))
+        self.assertEqual(row, Row(tuple(row.members)))
+        self.assertIsNone(check_stream(tuple(stream)))
+        self.assertEqual(told_events(row, stream), told_events(row, tuple(stream)))
+        self.assertEqual(told_times(row, stream), told_times(row, tuple(stream)))
+        self.assertEqual(Normal([["last", 3]], 3), Normal((("last", 3),), 3))
+        self.assertEqual(row_of(Normal([["last", 3]], 3)), row_of(Normal((("last", 3),), 3)))
+
+    def test_strings_are_no_sequences(self):
+        for call, error in ((lambda: Row(""), BadRow), (lambda: Row("ab"), BadRow),
+                            (lambda: check_stream(""), BadStream), (lambda: check_stream("12"), BadStream),
+                            (lambda: told_events(Row([]), ""), BadStream), (lambda: told_times(Row([]), ""), BadStream),
+                            (lambda: row_of(Normal("", 0)), BadForm), (lambda: row_of(Normal(("ab",), 0)), BadForm)):
+            with self.assertRaises(error):
+                call()
+        self.assertEqual(Normal("ab", 0).records, "ab")
+
+
+class Results(unittest.TestCase):
+
+    def test_each_returned_list_is_new_and_the_callers(self):
+        stream = [0, 1, 5, 9]
+        for row in (Row([]), Row([Delay(0)]), sample_row()):
+            for call in (lambda: told_events(row, stream), lambda: told_times(row, stream), lambda: idle_members(row)):
+                found, kept = call(), call()
+                self.assertIs(type(found), list)
+                self.assertIsNot(found, kept)
+                self.assertIsNot(found, stream)
+                found.append(None)
+                self.assertEqual(call(), kept)
+        self.assertEqual(stream, [0, 1, 5, 9])
+
+    def test_told_objects_are_new_too(self):
+        row = Row([])
+        told_events(row, [0])[0].time = 5
+        self.assertEqual(told_events(row, [0]), [Told(0, 0, 0, 0)])
+
+    def test_pairs_are_tuples(self):
+        for pair in normal_form(sample_row()).records:
+            self.assertIs(type(pair), tuple)
+
+    def test_kinds_of_results(self):
+        self.assertIs(type(told_events(sample_row(), [0])[0]), Told)
+        self.assertIs(type(normal_form(sample_row())), Normal)
+        self.assertIs(type(row_of(normal_form(sample_row()))), Row)
+        self.assertIs(type(normal_form(Row([])).delay), int)
+        for call in (same_rows, is_contained):
+            self.assertIs(call(Row([Last(3)]), Row([Last(3)])), True)
+            self.assertIs(call(Row([]), Row([Last(3)])), False)
+            self.assertIs(call(Row([Last(3)]), Row([Last(5)])), False)
+
+    def test_equal_arguments_give_equal_results(self):
+        stream = [0, 1, 5, 9]
+        for call in (lambda: told_events(sample_row(), stream), lambda: told_times(sample_row(), stream),
+                     lambda: normal_form(sample_row()), lambda: row_of(normal_form(sample_row())),
+                     lambda: idle_members(sample_row()), lambda: is_contained(Row([Last(3)]), Row([Last(2)]))):
+            self.assertEqual(call(), call())
+
+    def test_everything_is_numbered_from_0(self):
+        self.assertEqual(told_events(Row([]), [7])[0].number, 0)
+        self.assertEqual(idle_members(Row([Delay(0)])), [0])
+
+    def test_somewhat_beyond_the_bounds_nothing_is_raised(self):
+        row = Row([First(2)] * 30 + [Last(10 ** 70)])
+        self.assertEqual(told_times(row, list(range(2500))), [10 ** 70])
+        self.assertEqual(normal_form(row).records, (("first", 2), ("last", 10 ** 70)))
+        self.assertEqual(len(idle_members(row)), 29)
+        many = Normal([("first", quiet) for quiet in range(2, 40)], 0)
+        self.assertEqual(normal_form(row_of(many)), many)
+
+
+class Equality(unittest.TestCase):
+
+    def test_equal_exactly_if_class_and_fields_are_equal(self):
+        for at, one in enumerate(samples()):
+            for place, other in enumerate(samples()):
+                with self.subTest(one=vars(one), other=vars(other)):
+                    self.assertIs(one == other, at == place)
+                    self.assertIs(one != other, at != place)
+
+    def test_never_equal_to_objects_of_other_classes(self):
+        others = [None, 3, "3", (), (3,), [], [3], {"q": 3}, (1, 2, 3, 4), ((), 0), (Last(3),), [Last(3)], object()]
+        for one in samples():
+            for other in others:
+                self.assertIs(one == other, False)
+                self.assertIs(other == one, False)
+                self.assertIs(one != other, True)

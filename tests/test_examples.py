@@ -1,0 +1,58 @@
+"""The document's examples for the modules there are, each with its last line."""
+
+import unittest
+
+from quietrows.errors import BadMember, BadStream, Mixed
+from quietrows.forms import idle_members, is_contained, normal_form, same_rows
+from quietrows.members import Delay, First, Last, Limit, check_stream
+from quietrows.rows import Row, told_events, told_times
+
+
+class Examples(unittest.TestCase):
+
+    def test_told_events(self):
+        found = told_events(Row([Last(3), First(20)]), [0, 1, 2, 9, 10, 30])
+        self.assertEqual([(one.number, one.time, one.first, one.last) for one in found],
+                         [(2, 5, 0, 4), (5, 33, 5, 5)])
+
+    def test_told_times(self):
+        self.assertEqual(
+            (told_times(Row([Limit(2), Limit(3)]), [0, 2, 3, 5]), told_times(Row([Limit(3)]), [0, 2, 3, 5])),
+            ([0, 5], [0, 3]))
+
+    def test_bad_member(self):
+        with self.assertRaises(BadMember) as caught:
+            Last(0)
+        self.assertEqual(caught.exception.what, "q")
+
+    def test_bad_stream(self):
+        with self.assertRaises(BadStream) as caught:
+            check_stream([3, 3])
+        self.assertEqual(caught.exception.place, 1)
+
+    def test_normal_form(self):
+        row = Row([Last(5), First(3), First(5), Delay(2), Limit(7)])
+        form = normal_form(row)
+        self.assertEqual((form.records, form.delay, idle_members(row)),
+                         ((("last", 5), ("limit", 7)), 7, [1, 2, 3]))
+
+    def test_same_rows(self):
+        self.assertIs(same_rows(Row([Last(3), Last(3)]), Row([Delay(3), Last(3)])), True)
+
+    def test_rows_that_part(self):
+        row = Row([Last(2), Last(3)])
+        other = Row([Delay(2), Last(3)])
+        self.assertIs(same_rows(row, other), False)
+        self.assertNotEqual(told_times(row, [0, 2, 4, 5, 7, 9]), told_times(other, [0, 2, 4, 5, 7, 9]))
+
+    def test_is_contained(self):
+        self.assertEqual((is_contained(Row([Last(9)]), Row([Last(2), Last(9)])),
+                          is_contained(Row([Last(2), Last(9)]), Row([Last(9)]))), (True, False))
+
+    def test_mixed(self):
+        with self.assertRaises(Mixed) as caught:
+            is_contained(Row([Limit(3)]), Row([]))
+        self.assertEqual(vars(caught.exception), {})
+
+    def test_same_rows_where_busses_are_not(self):
+        self.assertIs(same_rows(Row([Last(3), Last(2)]), Row([Last(3), Delay(2)])), True)
