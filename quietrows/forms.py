@@ -3,7 +3,7 @@
 from quietrows.errors import BadForm, Mixed
 from quietrows.members import Delay, First, Last, Limit
 from quietrows.plain import as_tuples, is_number
-from quietrows.rows import Row
+from quietrows.rows import Row, lag_of, record_indexes, records_of
 
 RECORD_KINDS = ("last", "first", "limit")
 
@@ -17,25 +17,6 @@ class Normal:
 
     def __eq__(self, other):
         return isinstance(other, Normal) and self.records == other.records and self.delay == other.delay
-
-
-def record_indexes(members):
-    """Return the indexes of the members with a greater quiet than all before, from 2 on."""
-    found = []
-    greatest = 1
-    for index, member in enumerate(members):
-        if member.quiet() > greatest:
-            greatest = member.quiet()
-            found.append(index)
-    return found
-
-
-def records_of(members):
-    return tuple([(members[index].kind(), members[index].quiet()) for index in record_indexes(members)])
-
-
-def lag_of(members):
-    return sum([member.lag() for member in members])
 
 
 def normal_form(row):

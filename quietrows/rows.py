@@ -20,6 +20,25 @@ class Row:
         return isinstance(other, Row) and self.members == other.members
 
 
+def record_indexes(members):
+    """Return the indexes of the members with a greater quiet than all before, from 2 on."""
+    found = []
+    greatest = 1
+    for index, member in enumerate(members):
+        if member.quiet() > greatest:
+            greatest = member.quiet()
+            found.append(index)
+    return found
+
+
+def records_of(members):
+    return tuple([(members[index].kind(), members[index].quiet()) for index in record_indexes(members)])
+
+
+def lag_of(members):
+    return sum([member.lag() for member in members])
+
+
 class Told:
     """An event that is told: its number, when, and the first and last event it speaks for."""
 

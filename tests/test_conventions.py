@@ -4,11 +4,15 @@ import copy
 import inspect
 import unittest
 
-from quietrows import errors, forms, members, rows
-from quietrows.errors import BadForm, BadRow, BadStream, QuietError
+from quietrows import errors, far, forms, members, parted, pasts, rows, trains
+from quietrows.errors import BadForm, BadRow, BadStream, BadTrain, QuietError
+from quietrows.far import numbers_told, train_told
 from quietrows.forms import Normal, idle_members, is_contained, normal_form, row_of, same_rows
 from quietrows.members import Delay, First, Last, Limit, check_stream
+from quietrows.parted import parting
+from quietrows.pasts import can_tell, count_pasts
 from quietrows.rows import Row, Told, told_events, told_times
+from quietrows.trains import Train, amount_of, event_at, events_until, train_events
 
 INTERFACE = {
     members: {"check_stream": ["stream"], "Last": ["q"], "First": ["q"], "Limit": ["q"], "Delay": ["d"]},
@@ -16,11 +20,20 @@ INTERFACE = {
            "told_events": ["row", "stream"], "told_times": ["row", "stream"]},
     forms: {"Normal": ["records", "delay"], "normal_form": ["row"], "row_of": ["form"],
             "same_rows": ["row", "other"], "idle_members": ["row"], "is_contained": ["row", "other"]},
+    parted: {"parting": ["row", "other"]},
+    pasts: {"can_tell": ["row", "times"], "count_pasts": ["row", "times", "begin", "end"]},
+    trains: {"Train": ["first", "head", "block", "rounds", "end"], "amount_of": ["train"],
+             "event_at": ["train", "number"], "events_until": ["train", "time"], "train_events": ["train"]},
+    far: {"train_told": ["row", "train"], "numbers_told": ["row", "train", "place"]},
 }
 
 
 def sample_row():
     return Row([Delay(1), Last(3), First(3), Last(5), First(1)])
+
+
+def sample_train():
+    return Train(0, [1, 4], [3, 2, 9], 4, [7, 1])
 
 
 def samples():
@@ -31,6 +44,8 @@ def samples():
         Told(1, 2, 3, 4), Told(0, 2, 3, 4), Told(1, 0, 3, 4), Told(1, 2, 0, 4), Told(1, 2, 3, 0),
         Normal((), 0), Normal((), 3), Normal((("last", 3),), 3), Normal((("last", 4),), 3), Normal((("first", 3),), 3),
         Normal((("last", 3),), 4),
+        Train(0, [1], [2], 3, [4]), Train(5, [1], [2], 3, [4]), Train(0, [5], [2], 3, [4]), Train(0, [1], [5], 3, [4]),
+        Train(0, [1], [2], 5, [4]), Train(0, [1], [2], 3, [5]), Train(0, [1], [2], 3, []), Train(0, [], [], 0, []),
     ]
 
 
@@ -63,6 +78,18 @@ class Interface(unittest.TestCase):
         self.assertIs(same_rows(other=row, row=Row([])), False)
         self.assertIs(is_contained(other=Row([]), row=Row([Last(3)])), True)
 
+    def test_arguments_by_keyword_of_trains_and_what_asks_for_them(self):
+        row, train = Row([First(3)]), Train(end=[4], rounds=3, block=[5, 2], head=[1], first=0)
+        self.assertEqual(train, Train(0, [1], [5, 2], 3, [4]))
+        self.assertEqual((amount_of(train=train), event_at(number=8, train=train), events_until(time=13, train=train)),
+                         (9, 26, 5))
+        self.assertEqual(train_events(train=train)[:3], [0, 1, 6])
+        self.assertEqual(amount_of(train_told(train=train, row=row)), 5)
+        self.assertEqual(numbers_told(place=1, train=train, row=row), Told(2, 6, 2, 3))
+        self.assertIsNone(parting(other=row, row=row))
+        self.assertIs(can_tell(times=[0, 2], row=row), False)
+        self.assertEqual(count_pasts(end=1, begin=0, times=[0], row=row), 2)
+
     def test_fields_are_named_as_the_parameters(self):
         self.assertEqual(vars(Last(3)), {"q": 3})
         self.assertEqual(vars(First(3)), {"q": 3})
@@ -71,6 +98,8 @@ class Interface(unittest.TestCase):
         self.assertEqual(vars(Row([Last(3)])), {"members": (Last(3),)})
         self.assertEqual(vars(Told(1, 2, 3, 4)), {"number": 1, "time": 2, "first": 3, "last": 4})
         self.assertEqual(vars(Normal((("last", 3),), 4)), {"records": (("last", 3),), "delay": 4})
+        self.assertEqual(vars(Train(0, [1], [2], 3, [4])),
+                         {"first": 0, "head": (1,), "block": (2,), "rounds": 3, "end": (4,)})
 
 
 class Arguments(unittest.TestCase):
@@ -93,6 +122,12 @@ class Arguments(unittest.TestCase):
         records[0][1] = 5
         records.pop()
         self.assertEqual(form.records, (("last", 3), ("first", 4)))
+        head, block, end = [1], [2, 3], [4]
+        train = Train(0, head, block, 2, end)
+        head.append(0)
+        block[0] = None
+        end.clear()
+        self.assertEqual((train.head, train.block, train.end), ((1,), (2, 3), (4,)))
 
     def test_arguments_are_never_changed(self):
         stream, given = [0, 1, 5, 9], [Delay(1), Last(3), First(3)]
@@ -110,15 +145,37 @@ class Arguments(unittest.TestCase):
         self.assertEqual((stream, given, row, form, records), before)
         self.assertEqual(type(records[0]), list)
 
+    def test_arguments_about_trains_and_pasts_are_never_changed(self):
+        row, other, train, gaps, times = sample_row(), Row([Limit(2)]), sample_train(), [1, 2], [7, 12]
+        before = copy.deepcopy((row, other, train, gaps, times))
+        Train(0, gaps, gaps, 2, gaps)
+        amount_of(train)
+        event_at(train, 3)
+        events_until(train, 9)
+        train_events(train).clear()
+        for one in (row, other, Row([First(5)]), Row([Last(9)])):
+            train_told(one, train)
+            numbers_told(one, train, 0)
+        parting(row, other)
+        can_tell(row, times)
+        count_pasts(row, times, 0, 9)
+        self.assertEqual((row, other, train, gaps, times), before)
+        self.assertEqual(type(gaps), list)
+
     def test_calls_that_raise_change_nothing(self):
         stream, given, row = [0, 2, 2], [Last(3), None], sample_row()
         form = Normal([["last", 3]], 2)
         before = (list(stream), list(given), copy.deepcopy(row), copy.deepcopy(form))
+        train, gaps = sample_train(), [1, 0]
         for call, arguments in ((check_stream, [stream]), (told_events, [row, stream]), (told_times, [row, stream]),
-                                (Row, [given]), (row_of, [form]), (is_contained, [Row([Limit(3)]), row])):
+                                (Row, [given]), (row_of, [form]), (is_contained, [Row([Limit(3)]), row]),
+                                (Train, [0, gaps, gaps, 0, gaps]), (event_at, [train, 99]), (can_tell, [row, stream]),
+                                (train_events, [Train(0, [], [1], 10 ** 4, [])]), (numbers_told, [row, train, -1]),
+                                (count_pasts, [row, stream, 0, 9]), (count_pasts, [row, [0], 0, 300])):
             with self.assertRaises(QuietError):
                 call(*arguments)
         self.assertEqual((stream, given, row, form), before)
+        self.assertEqual((train, gaps), (sample_train(), [1, 0]))
 
     def test_an_object_stays_as_it_is_when_made_anew_wrongly(self):
         for made, again, error in ((Last(3), 0, errors.BadMember), (First(3), 0, errors.BadMember),
@@ -128,6 +185,10 @@ class Arguments(unittest.TestCase):
             with self.assertRaises(error):
                 made.__init__(again)
             self.assertEqual(made, before)
+        train = sample_train()
+        with self.assertRaises(BadTrain):
+            train.__init__(1, [2], [3], 4, [0])
+        self.assertEqual(train, sample_train())
 
     def test_lists_and_tuples_are_accepted_alike(self):
         stream = [0, 1, 5, 9]
@@ -138,12 +199,18 @@ class Arguments(unittest.TestCase):
         self.assertEqual(told_times(row, stream), told_times(row, tuple(stream)))
         self.assertEqual(Normal([["last", 3]], 3), Normal((("last", 3),), 3))
         self.assertEqual(row_of(Normal([["last", 3]], 3)), row_of(Normal((("last", 3),), 3)))
+        self.assertEqual(Train(0, [1], [2], 3, [4]), Train(0, (1,), (2,), 3, (4,)))
+        self.assertEqual(can_tell(row, [8, 99]), can_tell(row, (8, 99)))
+        self.assertEqual(count_pasts(row, [15, 25], 0, 40), count_pasts(row, (15, 25), 0, 40))
 
     def test_strings_are_no_sequences(self):
         for call, error in ((lambda: Row(""), BadRow), (lambda: Row("ab"), BadRow),
                             (lambda: check_stream(""), BadStream), (lambda: check_stream("12"), BadStream),
                             (lambda: told_events(Row([]), ""), BadStream), (lambda: told_times(Row([]), ""), BadStream),
-                            (lambda: row_of(Normal("", 0)), BadForm), (lambda: row_of(Normal(("ab",), 0)), BadForm)):
+                            (lambda: row_of(Normal("", 0)), BadForm), (lambda: row_of(Normal(("ab",), 0)), BadForm),
+                            (lambda: Train(0, "", [], 0, []), BadTrain), (lambda: Train(0, [], "", 0, []), BadTrain),
+                            (lambda: Train(0, [], [], 0, ""), BadTrain), (lambda: can_tell(Row([]), ""), BadStream),
+                            (lambda: count_pasts(Row([]), "", 0, 9), BadStream)):
             with self.assertRaises(error):
                 call()
         self.assertEqual(Normal("ab", 0).records, "ab")
@@ -177,6 +244,17 @@ class Results(unittest.TestCase):
         self.assertIs(type(normal_form(sample_row())), Normal)
         self.assertIs(type(row_of(normal_form(sample_row()))), Row)
         self.assertIs(type(normal_form(Row([])).delay), int)
+        self.assertIs(type(parting(sample_row(), Row([]))), Train)
+        self.assertIs(type(train_told(sample_row(), sample_train())), Train)
+        self.assertIs(type(numbers_told(sample_row(), sample_train(), 0)), Told)
+        self.assertIs(type(train_events(sample_train())), list)
+        for count in (amount_of(sample_train()), event_at(sample_train(), 0), events_until(sample_train(), -1),
+                      count_pasts(Row([]), [], 0, 0), count_pasts(Row([]), [9], 0, 0)):
+            self.assertIs(type(count), int)
+        for row in (Row([]), Row([Last(3)])):
+            self.assertIs(can_tell(row, [0, 3]), True)
+            self.assertIs(can_tell(row, []), True)
+        self.assertIs(can_tell(Row([Last(3)]), [0, 2]), False)
         for call in (same_rows, is_contained):
             self.assertIs(call(Row([Last(3)]), Row([Last(3)])), True)
             self.assertIs(call(Row([]), Row([Last(3)])), False)
@@ -186,12 +264,17 @@ class Results(unittest.TestCase):
         stream = [0, 1, 5, 9]
         for call in (lambda: told_events(sample_row(), stream), lambda: told_times(sample_row(), stream),
                      lambda: normal_form(sample_row()), lambda: row_of(normal_form(sample_row())),
-                     lambda: idle_members(sample_row()), lambda: is_contained(Row([Last(3)]), Row([Last(2)]))):
+                     lambda: idle_members(sample_row()), lambda: is_contained(Row([Last(3)]), Row([Last(2)])),
+                     lambda: parting(sample_row(), Row([Limit(9)])), lambda: train_told(sample_row(), sample_train()),
+                     lambda: numbers_told(sample_row(), sample_train(), 1), lambda: train_events(sample_train()),
+                     lambda: count_pasts(sample_row(), [9, 16], 0, 30), lambda: can_tell(sample_row(), [9, 16])):
             self.assertEqual(call(), call())
 
     def test_everything_is_numbered_from_0(self):
         self.assertEqual(told_events(Row([]), [7])[0].number, 0)
         self.assertEqual(idle_members(Row([Delay(0)])), [0])
+        self.assertEqual(event_at(sample_train(), 0), 0)
+        self.assertEqual(numbers_told(Row([]), sample_train(), 0), Told(0, 0, 0, 0))
 
     def test_somewhat_beyond_the_bounds_nothing_is_raised(self):
         row = Row([First(2)] * 30 + [Last(10 ** 70)])

@@ -3,9 +3,13 @@
 import unittest
 
 from quietrows.errors import BadMember, BadStream, Mixed
+from quietrows.far import numbers_told, train_told
 from quietrows.forms import idle_members, is_contained, normal_form, same_rows
 from quietrows.members import Delay, First, Last, Limit, check_stream
+from quietrows.parted import parting
+from quietrows.pasts import can_tell, count_pasts
 from quietrows.rows import Row, told_events, told_times
+from quietrows.trains import Train, amount_of, event_at, events_until, train_events
 
 
 class Examples(unittest.TestCase):
@@ -44,6 +48,8 @@ class Examples(unittest.TestCase):
         other = Row([Delay(2), Last(3)])
         self.assertIs(same_rows(row, other), False)
         self.assertNotEqual(told_times(row, [0, 2, 4, 5, 7, 9]), told_times(other, [0, 2, 4, 5, 7, 9]))
+        stream = train_events(parting(row, other))
+        self.assertIs(told_times(row, stream) == told_times(other, stream), False)
 
     def test_is_contained(self):
         self.assertEqual((is_contained(Row([Last(9)]), Row([Last(2), Last(9)])),
@@ -53,6 +59,20 @@ class Examples(unittest.TestCase):
         with self.assertRaises(Mixed) as caught:
             is_contained(Row([Limit(3)]), Row([]))
         self.assertEqual(vars(caught.exception), {})
+
+    def test_pasts(self):
+        self.assertEqual((can_tell(Row([Last(3)]), [0, 2]), count_pasts(Row([Last(2)]), [2, 5], 0, 3)), (False, 2))
+
+    def test_train(self):
+        train = Train(0, [1], [5, 2], 3, [4])
+        self.assertEqual((amount_of(train), event_at(train, 8), events_until(train, 13)), (9, 26, 5))
+
+    def test_far(self):
+        row = Row([First(3)])
+        train = Train(0, [], [1, 5], 10 ** 30, [])
+        found = train_told(row, train)
+        self.assertEqual((amount_of(found) == 10 ** 30 + 1, event_at(found, 10 ** 30) == 6 * 10 ** 30,
+                          numbers_told(row, train, 1).number), (True, True, 2))
 
     def test_same_rows_where_busses_are_not(self):
         self.assertIs(same_rows(Row([Last(3), Last(2)]), Row([Last(3), Delay(2)])), True)
