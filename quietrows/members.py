@@ -1,4 +1,10 @@
-"""Streams, and the members that tell some of their events."""
+"""Streams, and the members that tell some of their events.
+
+Members with a quiet are asked what they keep: from the gaps of a stream with one
+event or more, kept makes the list of the places of the events that they tell. From
+these, begins makes, for some of them, the places where their stretches begin. A
+Delay keeps all events and is never asked.
+"""
 
 from quietrows.errors import BadMember, BadStream
 from quietrows.plain import is_listing, is_number
@@ -8,24 +14,17 @@ def check_stream(stream):
     """Raise BadStream with the first place at which this is not as a stream is."""
     if not is_listing(stream):
         raise BadStream(-1)
+    before = None
     for place, time in enumerate(stream):
-        if not is_number(time) or (place > 0 and time <= stream[place - 1]):
+        # is_number, written out: calling it for each event would take most of the time.
+        if not isinstance(time, int) or isinstance(time, bool) or (before is not None and time <= before):
             raise BadStream(place)
+        before = time
 
 
 def check_least(number, least, what):
     if not is_number(number) or number < least:
         raise BadMember(what)
-
-
-def stretches_from(heads, many):
-    """Let each of these places speak for itself and all up to the next one of them.
-
-    Like the method stretches of each member, this returns for each told event
-    its place, and the first and the last place that it speaks for.
-    """
-    ends = [head - 1 for head in heads[1:]] + [many - 1]
-    return [(head, head, end) for head, end in zip(heads, ends)]
 
 
 class Last:
@@ -47,14 +46,14 @@ class Last:
     def lag(self):
         return self.q
 
-    def stretches(self, times):
-        found = []
-        begin = 0
-        for at, time in enumerate(times):
-            if at + 1 == len(times) or times[at + 1] - time >= self.q:
-                found.append((at, begin, at))
-                begin = at + 1
-        return found
+    def kept(self, gaps):
+        q = self.q
+        return [place for place, gap in enumerate(gaps) if gap >= q] + [len(gaps)]
+
+    def begins(self, places, chosen):
+        # A stretch begins behind the event before that is kept.
+        before = [-1] + places
+        return [before[at] + 1 for at in chosen]
 
 
 class First:
@@ -76,9 +75,12 @@ class First:
     def lag(self):
         return 0
 
-    def stretches(self, times):
-        heads = [at for at, time in enumerate(times) if at == 0 or time - times[at - 1] >= self.q]
-        return stretches_from(heads, len(times))
+    def kept(self, gaps):
+        q = self.q
+        return [0] + [place for place, gap in enumerate(gaps, start=1) if gap >= q]
+
+    def begins(self, places, chosen):
+        return [places[at] for at in chosen]
 
 
 class Limit:
@@ -100,12 +102,19 @@ class Limit:
     def lag(self):
         return 0
 
-    def stretches(self, times):
-        heads = []
-        for at, time in enumerate(times):
-            if len(heads) == 0 or time - times[heads[-1]] >= self.q:
-                heads.append(at)
-        return stretches_from(heads, len(times))
+    def kept(self, gaps):
+        q = self.q
+        found = [0]
+        since = 0
+        for place, gap in enumerate(gaps, start=1):
+            since += gap
+            if since >= q:
+                found.append(place)
+                since = 0
+        return found
+
+    def begins(self, places, chosen):
+        return [places[at] for at in chosen]
 
 
 class Delay:
@@ -124,9 +133,6 @@ class Delay:
 
     def lag(self):
         return self.d
-
-    def stretches(self, times):
-        return [(at, at, at) for at in range(len(times))]
 
 
 def is_member(thing):

@@ -8,13 +8,9 @@ each length up to the longest, Ways holds how many ways there are.
 
 from quietrows.errors import Large
 from quietrows.members import check_stream
-from quietrows.rows import lag_of, records_of
+from quietrows.rows import gaps_of, lag_of, records_of
 
 MOST_TIMES = 300
-
-
-def gaps_of(times):
-    return [later - time for time, later in zip(times, times[1:])]
 
 
 def are_wide(gaps, records):

@@ -53,27 +53,49 @@ class Told:
                 and self.first == other.first and self.last == other.last)
 
 
+def gaps_of(times):
+    return [later - time for time, later in zip(times, times[1:])]
+
+
+def kept_by_members(members, times):
+    """Return the times of the events that the members keep, and how they came to be kept.
+
+    That is, for each member that keeps not all that it gets, the member and the
+    places of those that it keeps. Each event has its own time, without delays.
+    """
+    steps = []
+    gaps = gaps_of(times)
+    # A member that is no record, or whose quiet is no greater than any gap, keeps all.
+    for index in record_indexes(members):
+        member = members[index]
+        if member.quiet() > min(gaps, default=member.quiet()):
+            places = member.kept(gaps)
+            times = [times[place] for place in places]
+            gaps = gaps_of(times)
+            steps.append((member, places))
+    return times, steps
+
+
 def told_events(row, stream):
     """Return a Told for each event of the stream that the row tells."""
     check_stream(stream)
-    events = [Told(number, time, number, number) for number, time in enumerate(stream)]
-    for member in row.members:
-        events = told_by_member(member, events)
-    return events
-
-
-def told_by_member(member, events):
-    lag = member.lag()
-    stretches = member.stretches([event.time for event in events])
-    return [told_for(events, stretch, lag) for stretch in stretches]
-
-
-def told_for(events, stretch, lag):
-    # Speakers of neighbours are neighbours, so the ends of a stretch are enough.
-    at, begin, end = stretch
-    return Told(events[at].number, events[at].time + lag, events[begin].first, events[end].last)
+    times, steps = kept_by_members(row.members, stream)
+    numbers = list(range(len(times)))
+    firsts = numbers
+    # Back from the told events, so that nothing is worked out for those that are not told.
+    for member, places in steps[::-1]:
+        numbers = [places[at] for at in numbers]
+        firsts = member.begins(places, firsts)
+    # The stretches are the whole stream, so each ends where the next one begins.
+    lasts = [first - 1 for first in firsts[1:]] + [len(stream) - 1]
+    lag = lag_of(row.members)
+    return [Told(number, time + lag, first, last)
+            for number, time, first, last in zip(numbers, times, firsts, lasts)]
 
 
 def told_times(row, stream):
     """Return the times at which the row tells events of the stream."""
-    return [event.time for event in told_events(row, stream)]
+    check_stream(stream)
+    times, _ = kept_by_members(row.members, stream)
+    lag = lag_of(row.members)
+    return [time + lag for time in times]

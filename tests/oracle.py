@@ -58,6 +58,31 @@ def told(pairs, stream):
     return found
 
 
+def told_of_long(pairs, stream):
+    """The same as told, in one pass for each member, so that long streams can be held against it."""
+    # An event that is still told: its number, its time, and the first and the last one it speaks for.
+    events = [[number, time, number, number] for number, time in enumerate(stream)]
+    for kind, quiet in pairs:
+        kept, unspoken, last_gotten = [], None, None
+        for at, (number, time, first, last) in enumerate(events):
+            if kind == "last":
+                tells_it = at + 1 == len(events) or events[at + 1][1] >= time + quiet
+                unspoken = first if unspoken is None else unspoken
+                if tells_it:
+                    kept.append([number, time, unspoken, last])
+                    unspoken = None
+                continue
+            since = last_gotten if kind == "first" else kept[-1][1] if kept else None
+            if kind == "delay" or since is None or since + quiet <= time:
+                kept.append([number, time, first, last])
+            else:
+                kept[-1][3] = last
+            last_gotten = time
+        lag = quiet if kind in ("last", "delay") else 0
+        events = [[number, time + lag, first, last] for number, time, first, last in kept]
+    return [tuple(event) for event in events]
+
+
 def short_streams(greatest, most):
     """All streams from 0 on with at most so many gaps, each at most the greatest."""
     found = [()]

@@ -1,5 +1,6 @@
 """[5] rows, what they tell, and for which events each told one speaks."""
 
+import random
 import time
 import unittest
 
@@ -13,6 +14,18 @@ HUGE = 10 ** 59
 
 def plain(events):
     return [(one.number, one.time, one.first, one.last) for one in events]
+
+
+def long_stream(chosen, many, greatest):
+    """A stream of so many events, with gaps up to the greatest one."""
+    return summed([chosen.randint(1, greatest) for _ in range(many)])
+
+
+def summed(gaps):
+    times = []
+    for gap in gaps:
+        times.append(times[-1] + gap if times else -50)
+    return times
 
 
 class RowsMade(unittest.TestCase):
@@ -119,6 +132,13 @@ class ToldOfStreams(unittest.TestCase):
         self.assertEqual([one.time for one in events], told_times(row, stream))
         self.assertEqual((events[0].first, events[-1].last), (0, 1999))
 
+    def test_the_quick_oracle_tells_what_the_slow_one_tells(self):
+        for seed in range(300):
+            chosen = random.Random(seed)
+            pairs = [(chosen.choice(list(oracle.MAKERS)), chosen.randint(1, 9)) for _ in range(chosen.randint(0, 6))]
+            stream = long_stream(chosen, chosen.randint(0, 30), 9)
+            self.assertEqual(oracle.told_of_long(pairs, stream), oracle.told(pairs, stream))
+
     def test_both_raise_bad_stream_with_the_place(self):
         for call in (told_events, told_times):
             for row in (Row([]), Row([Last(3)])):
@@ -127,3 +147,57 @@ class ToldOfStreams(unittest.TestCase):
                     with self.subTest(call=call, stream=stream), self.assertRaises(BadStream) as caught:
                         call(row, stream)
                     self.assertEqual(caught.exception.place, place)
+
+
+class LongRowsAndStreams(unittest.TestCase):
+    """Rows of 20 members on streams of 1,500 to 2,000 events."""
+
+    def check(self, pairs, stream):
+        row = oracle.made(pairs)
+        expected = oracle.told_of_long(pairs, stream)
+        self.assertEqual(plain(told_events(row, stream)), expected)
+        self.assertEqual(told_times(row, stream), [one[1] for one in expected])
+
+    def test_members_of_all_kinds_idle_ones_and_records_mixed(self):
+        for seed in range(40):
+            chosen = random.Random(seed)
+            greatest = chosen.choice((2, 5, 20, 100))
+            pairs = [(chosen.choice(list(oracle.MAKERS)), chosen.randint(1, chosen.choice((3, greatest, 2 * greatest))))
+                     for _ in range(20)]
+            self.check(pairs, long_stream(chosen, chosen.randint(1500, 2000), greatest))
+
+    def test_records_alone(self):
+        for seed in range(20):
+            chosen = random.Random(seed)
+            kinds = chosen.choice((("last",), ("first",), ("limit",), ("last", "first", "limit")))
+            pairs = [(chosen.choice(kinds), place + 2) for place in range(20)]
+            self.check(pairs, long_stream(chosen, chosen.randint(1500, 2000), chosen.choice((3, 25, 200))))
+
+    def test_records_that_each_drop_few_events(self):
+        for kinds in (("last",), ("first",), ("limit",), ("last", "first", "limit"), ("limit", "last")):
+            pairs = [(kinds[place % len(kinds)], place + 2) for place in range(20)]
+            gaps = [place // 100 + 1 if place % 50 == 7 else 99 for place in range(2000)]
+            self.check(pairs, summed(gaps))
+
+    def test_idle_members_alone(self):
+        for pairs in ([("last", 1)] * 20, [("first", 1), ("limit", 1), ("delay", 0), ("delay", 3)] * 5):
+            self.check(pairs, list(range(2000)))
+        self.assertEqual(told_times(Row([Last(1)] * 20), list(range(2000))), list(range(20, 2020)))
+
+    def test_quiets_as_great_as_the_gaps_and_one_more(self):
+        for kind in ("last", "first", "limit"):
+            for place in (0, 10, 19):
+                pairs = [(kind, 7)] * 20
+                self.check(pairs, list(range(0, 14000, 7)))
+                pairs[place] = (kind, 8)
+                self.check(pairs, list(range(0, 14000, 7)))
+
+    def test_two_hundred_calls_end_soon(self):
+        stream = list(range(2000))
+        mixed = [(Last, First, Limit, Delay)[place % 4](place % 7 + 1) for place in range(20)]
+        for row in (Row([Last(1)] * 20), Row([Limit(1)] * 19 + [Last(2)]), Row(mixed)):
+            for call in (told_times, told_events):
+                begin = time.monotonic()
+                for _ in range(200):
+                    call(row, stream)
+                self.assertLess(time.monotonic() - begin, 2)
