@@ -4,6 +4,7 @@ import random
 import time
 import unittest
 from itertools import combinations, product
+from unittest import mock
 
 from quietrows.far import train_told
 from quietrows.forms import Normal, normal_form, row_of, same_rows
@@ -127,13 +128,39 @@ class Parting(unittest.TestCase):
     def test_rows_that_calls_have_returned_with_more_members(self):
         for seed in range(6):
             chosen = random.Random(seed)
-            common = [2 ** place + chosen.randint(0, 1) for place in range(3, 60)]
+            common = [2 ** place + chosen.randint(0, 1) for place in range(3, (22, 23, 24, 25, 60, 61)[seed])]
             for kinds in (("last", "first", "limit"), ("last",), ("first",), ("limit",), ("limit", "limit", "first"),
                           ("first", "limit"), ("limit",) * 30 + ("last",), ("limit",) * 30 + ("first",)):
                 behind = [(chosen.choice(kinds), quiet) for quiet in common]
                 for one, two in combinations([("last", 3), ("first", 3), ("limit", 3), ("last", 4)], 2):
                     self.check_records([one] + behind, [two] + behind)
                     self.check_records([one] + behind, behind)
+
+    def test_common_quiets_as_great_as_the_stream_so_far(self):
+        kinds = ("last", "first", "limit")
+        for quiets in ((2, 3, 4, 5), (3, 4, 5, 6), (2, 3, 4, 6, 7)):
+            for chosen in product(kinds, repeat=len(quiets)):
+                records = list(zip(chosen, quiets))
+                self.check_records(records, records[1:])
+                for kind in kinds:
+                    self.check_records(records, [(kind, quiets[0])] + records[1:])
+
+    def test_long_trains_part_short_rows_too(self):
+        # Rounds stand for gaps as soon as two would be put ahead or behind, not only from twenty on.
+        with mock.patch("quietrows.parted.MOST_GAPS", 2):
+            for seed in range(4000):
+                chosen = random.Random(seed)
+                kinds = chosen.choice((("last", "first", "limit"), ("last",), ("first", "limit"), ("limit",),
+                                       ("limit", "limit", "limit", "first"), ("limit", "limit", "limit", "last")))
+                quiets = sorted(chosen.sample(range(2, chosen.choice((12, 20, 40))), chosen.randint(3, 9)))
+                records = [(chosen.choice(kinds), quiet) for quiet in quiets]
+                place = chosen.choice((0, 0, 1, 2))
+                others = chosen.choice(changed_at(records, place))
+                delay = max(lag(records), lag(others))
+                row, other = with_delay(records, delay), with_delay(others, delay)
+                self.check(row, other)
+                train = parting(row, other)
+                self.assertTrue(train is None or len(train.head) + len(train.block) + len(train.end) <= 3)
 
     def test_quiets_of_thirty_digits(self):
         for make, other in product(KINDS, repeat=2):
