@@ -1,9 +1,9 @@
 """Streams, and the members that tell some of their events.
 
-Members with a quiet are asked what they keep: from the gaps of a stream with one
-event or more, kept makes the list of the places of the events that they tell. From
-these, begins makes, for some of them, the places where their stretches begin. A
-Delay keeps all events and is never asked.
+A member with a quiet closes some gaps of a stream: of the two events at the ends
+of such a gap, Last drops the earlier one, and First and Limit drop the later one.
+All other events are told. From the list of gaps, the method closed makes that of
+the places of those that are closed.
 """
 
 from quietrows.errors import BadMember, BadStream
@@ -16,8 +16,8 @@ def check_stream(stream):
         raise BadStream(-1)
     before = None
     for place, time in enumerate(stream):
-        # is_number, written out: calling it for each event would take most of the time.
-        if not isinstance(time, int) or isinstance(time, bool) or (before is not None and time <= before):
+        # is_number is written out here, because calls for each event would take most of the time for long streams.
+        if not isinstance(time, int) or time is True or time is False or (before is not None and time <= before):
             raise BadStream(place)
         before = time
 
@@ -25,6 +25,10 @@ def check_stream(stream):
 def check_least(number, least, what):
     if not is_number(number) or number < least:
         raise BadMember(what)
+
+
+def narrow_ones(gaps, quiet):
+    return [place for place, gap in enumerate(gaps) if gap < quiet]
 
 
 class Last:
@@ -46,14 +50,8 @@ class Last:
     def lag(self):
         return self.q
 
-    def kept(self, gaps):
-        q = self.q
-        return [place for place, gap in enumerate(gaps) if gap >= q] + [len(gaps)]
-
-    def begins(self, places, chosen):
-        # A stretch begins behind the event before that is kept.
-        before = [-1] + places
-        return [before[at] + 1 for at in chosen]
+    def closed(self, gaps):
+        return narrow_ones(gaps, self.q)
 
 
 class First:
@@ -75,12 +73,8 @@ class First:
     def lag(self):
         return 0
 
-    def kept(self, gaps):
-        q = self.q
-        return [0] + [place for place, gap in enumerate(gaps, start=1) if gap >= q]
-
-    def begins(self, places, chosen):
-        return [places[at] for at in chosen]
+    def closed(self, gaps):
+        return narrow_ones(gaps, self.q)
 
 
 class Limit:
@@ -102,19 +96,17 @@ class Limit:
     def lag(self):
         return 0
 
-    def kept(self, gaps):
+    def closed(self, gaps):
         q = self.q
-        found = [0]
+        found = []
         since = 0
-        for place, gap in enumerate(gaps, start=1):
+        for place, gap in enumerate(gaps):
             since += gap
-            if since >= q:
+            if since < q:
                 found.append(place)
+            else:
                 since = 0
         return found
-
-    def begins(self, places, chosen):
-        return [places[at] for at in chosen]
 
 
 class Delay:

@@ -57,45 +57,78 @@ def gaps_of(times):
     return [later - time for time, later in zip(times, times[1:])]
 
 
-def kept_by_members(members, times):
-    """Return the times of the events that the members keep, and how they came to be kept.
+def without(things, places):
+    """Return the list of the things that are not at these places, which ascend."""
+    # Where few are left out, whole slices are put together far sooner than things one by one.
+    found = []
+    begin = 0
+    for place in places:
+        if begin < place:
+            found.extend(things[begin:place])
+        begin = place + 1
+    found.extend(things[begin:])
+    return found
 
-    That is, for each member that keeps not all that it gets, the member and the
-    places of those that it keeps. Each event has its own time, without delays.
+
+def without_behind(things, places):
+    """Return the list of the things that are not just behind these places."""
+    return things[:1] + without(things[1:], places)
+
+
+def widened(gaps, places, toward):
+    """Return the gaps that are left when those at these places are closed.
+
+    Each of these widens the next gap before it if toward is -1, and behind it if it is 1.
     """
-    steps = []
-    gaps = gaps_of(times)
-    # A member that is no record, or whose quiet is no greater than any gap, keeps all.
-    for index in record_indexes(members):
-        member = members[index]
-        if member.quiet() > min(gaps, default=member.quiet()):
-            places = member.kept(gaps)
-            times = [times[place] for place in places]
-            gaps = gaps_of(times)
-            steps.append((member, places))
-    return times, steps
+    # What is closed at an end of the stream widens but the 0 behind all gaps.
+    wide = gaps + [0]
+    for place in places[::toward]:
+        wide[place + toward] += wide[place]
+    return without(wide, places)[:-1]
+
+
+def told_and_closed(members, stream):
+    """Return the numbers of the told events, and the places of the gaps that members close.
+
+    There is one list of places for each member that closes gaps, among those that it gets.
+    """
+    numbers = list(range(len(stream)))
+    closed = []
+    gaps = gaps_of(stream)
+    least = min(gaps, default=0)
+    for member in members:
+        # Behind a record all gaps are as wide as its quiet, so that no idle member closes any.
+        if len(gaps) > 0 and member.quiet() > least:
+            places = member.closed(gaps)
+            toward = -1 if member.kind() == "last" else 1
+            numbers = without(numbers, places) if toward < 0 else without_behind(numbers, places)
+            if 2 * len(places) < len(gaps):
+                gaps = widened(gaps, places, toward)
+            else:
+                gaps = gaps_of([stream[number] for number in numbers])
+            least = min(gaps, default=0)
+            closed.append(places)
+    return numbers, closed
 
 
 def told_events(row, stream):
     """Return a Told for each event of the stream that the row tells."""
     check_stream(stream)
-    times, steps = kept_by_members(row.members, stream)
-    numbers = list(range(len(times)))
-    firsts = numbers
-    # Back from the told events, so that nothing is worked out for those that are not told.
-    for member, places in steps[::-1]:
-        numbers = [places[at] for at in numbers]
-        firsts = member.begins(places, firsts)
+    numbers, closed = told_and_closed(row.members, stream)
+    firsts = list(range(len(stream)))
+    for places in closed:
+        # Whichever of the two events is told, the later one's stretch begins no more.
+        firsts = without_behind(firsts, places)
     # The stretches are the whole stream, so each ends where the next one begins.
     lasts = [first - 1 for first in firsts[1:]] + [len(stream) - 1]
     lag = lag_of(row.members)
-    return [Told(number, time + lag, first, last)
-            for number, time, first, last in zip(numbers, times, firsts, lasts)]
+    return [Told(number, stream[number] + lag, first, last)
+            for number, first, last in zip(numbers, firsts, lasts)]
 
 
 def told_times(row, stream):
     """Return the times at which the row tells events of the stream."""
     check_stream(stream)
-    times, _ = kept_by_members(row.members, stream)
+    numbers, _ = told_and_closed(row.members, stream)
     lag = lag_of(row.members)
-    return [time + lag for time in times]
+    return [stream[number] + lag for number in numbers]
