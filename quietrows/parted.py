@@ -20,18 +20,38 @@ def parting(row, other):
     if lag_of(row.members) != lag_of(other.members):
         # Every row tells a lone event, when its whole delay is over.
         return Train(0, [], [], 0, [])
-    records, others, common = without_common_end(records_of(row.members), records_of(other.members))
+    kind, quiet, rounds, common = last_unlike(records_of(row.members), records_of(other.members))
+    ahead, behind = gaps_beside(kind, quiet, rounds, common)
+    if len(ahead) + len(behind) < MOST_GAPS:
+        return Train(0, ahead, [quiet - 1], rounds, behind)
+    return long_train(kind, quiet, rounds, common)
+
+
+def parting_gaps(records, others):
+    """Return the gaps of a stream that parts the rows of unlike records, one more or two more than records."""
+    kind, quiet, rounds, common = last_unlike(records, others)
+    ahead, behind = gaps_beside(kind, quiet, rounds, common)
+    return ahead + [quiet - 1] * rounds + behind
+
+
+def last_unlike(records, others):
+    """Return what a stream is made from that parts the rows of unlike records.
+
+    This is the kind of the last unlike record, its quiet, how many gaps just below
+    this are needed, and the common records behind that might undo what these do.
+    """
+    records, others, common = without_common_end(records, others)
     kind, quiet = last_of(records)
     other_kind, other_quiet = last_of(others)
     if other_quiet > quiet:
-        return train_that_parts(other_kind, other_quiet, 1, common)
+        return other_kind, other_quiet, 1, common
     if other_quiet < quiet:
-        return train_that_parts(kind, quiet, 1, common)
+        return kind, quiet, 1, common
     if "last" in (kind, other_kind):
-        # Of two events, one row tells the last alone and the other one the first.
-        return Train(0, [quiet - 1], [], 0, [])
+        # Of two events, one row tells the last alone and the other one the first, and nothing undoes this.
+        return kind, quiet, 1, ()
     # Of three events, a First tells the first alone, and a Limit also the last.
-    return train_that_parts("first", quiet, 2, common)
+    return "first", quiet, 2, common
 
 
 def without_common_end(records, others):
@@ -48,19 +68,16 @@ def last_of(records):
     return records[-1] if len(records) > 0 else ("none", 1)
 
 
-def train_that_parts(kind, quiet, rounds, common):
-    """Return a train for the last unlike record of one row, where all of the other row have less quiets.
+def gaps_beside(kind, quiet, rounds, common):
+    """Return the gaps to put ahead of those that part two rows, and behind them.
 
-    Or, with two rounds, for a First where the other row has a Limit of the same quiet.
+    These are one just below the quiet of the last unlike record of one row, where
+    all of the other row have less, or two of them for a First where the other row
+    has a Limit of the same quiet.
     """
-    gap = quiet - 1
     if kind == "last":
-        ahead, behind = gaps_ahead(gap, common), []
-    else:
-        ahead, behind = gaps_around(rounds * gap, common)
-    if len(ahead) + len(behind) < MOST_GAPS:
-        return Train(0, ahead, [gap], rounds, behind)
-    return long_train(kind, quiet, rounds, common)
+        return gaps_ahead(quiet - 1, common), []
+    return gaps_around(rounds * (quiet - 1), common)
 
 
 def gaps_ahead(length, common):

@@ -1,5 +1,8 @@
 """What all modules ask of the plain values that they are given."""
 
+LETTERS = "abcdefghijklmnopqrstuvwxyz"
+LONGEST_NAME = 8
+
 
 def is_number(thing):
     # True and False are integers for Python, but no numbers for the program.
@@ -8,6 +11,12 @@ def is_number(thing):
 
 def is_listing(thing):
     return isinstance(thing, (list, tuple))
+
+
+def is_name(thing):
+    if not isinstance(thing, str) or not 1 <= len(thing) <= LONGEST_NAME:
+        return False
+    return all([letter in LETTERS for letter in thing])
 
 
 def as_tuples(thing):

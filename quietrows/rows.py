@@ -129,6 +129,11 @@ def told_events(row, stream):
 def told_times(row, stream):
     """Return the times at which the row tells events of the stream."""
     check_stream(stream)
-    numbers, _ = told_and_closed(row.members, stream)
-    lag = lag_of(row.members)
+    return times_behind(row.members, stream)
+
+
+def times_behind(members, stream):
+    """Return the times that the members tell of what surely is a stream."""
+    numbers, _ = told_and_closed(members, stream)
+    lag = lag_of(members)
     return [stream[number] + lag for number in numbers]

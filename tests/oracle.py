@@ -6,6 +6,7 @@ pairs (kind, number), with "delay" as the kind of delays.
 
 from itertools import product
 
+from quietrows.busses import Bus
 from quietrows.members import Delay, First, Last, Limit
 from quietrows.rows import Row
 
@@ -94,3 +95,20 @@ def short_streams(greatest, most):
 
 def all_rows(pairs, most):
     return [row for many in range(most + 1) for row in product(pairs, repeat=many)]
+
+
+def bus_made(steps):
+    """The bus of steps that are names or pairs (kind, number)."""
+    return Bus([step if isinstance(step, str) else MAKERS[step[0]](step[1]) for step in steps])
+
+
+def bus_told(steps, streams):
+    """The times that a bus of such steps tells, walked step by step."""
+    coming = dict(streams)
+    times = []
+    for step in steps:
+        if isinstance(step, str):
+            times = sorted(set(times) | set(coming.get(step, ())))
+        else:
+            times = [time for _, time in passed(step[0], step[1], list(enumerate(times)))[0]]
+    return times

@@ -4,10 +4,14 @@ import copy
 import inspect
 import unittest
 
-from quietrows import errors, far, forms, members, parted, pasts, rows, trains
+from quietrows import busses, errors, far, finding, forms, inlets, leading, members, parted, pasts, rows, trains
+from quietrows.busses import Bus, Places, bus_places, same_busses, told_by
 from quietrows.errors import BadForm, BadRow, BadStream, BadTrain, QuietError
 from quietrows.far import numbers_told, train_told
+from quietrows.finding import Finder
 from quietrows.forms import Normal, idle_members, is_contained, normal_form, row_of, same_rows
+from quietrows.inlets import parting_inputs
+from quietrows.leading import count_leading, least_leading, telling_stream
 from quietrows.members import Delay, First, Last, Limit, check_stream
 from quietrows.parted import parting
 from quietrows.pasts import can_tell, count_pasts
@@ -25,6 +29,15 @@ INTERFACE = {
     trains: {"Train": ["first", "head", "block", "rounds", "end"], "amount_of": ["train"],
              "event_at": ["train", "number"], "events_until": ["train", "time"], "train_events": ["train"]},
     far: {"train_told": ["row", "train"], "numbers_told": ["row", "train", "place"]},
+    finding: {"Finder": ["most"]},
+    leading: {"count_leading": ["stream", "numbers", "most"], "least_leading": ["stream", "numbers", "most"],
+              "telling_stream": ["most"]},
+    busses: {"Bus": ["steps"], "told_by": ["bus", "streams"], "Places": ["inputs", "segments"], "bus_places": ["bus"],
+             "same_busses": ["bus", "other"]},
+    inlets: {"parting_inputs": ["bus", "other"]},
+}
+METHODS = {
+    Finder: {"ask": [], "take_answer": ["times"], "known_form": []},
 }
 
 
@@ -46,6 +59,9 @@ def samples():
         Normal((("last", 3),), 4),
         Train(0, [1], [2], 3, [4]), Train(5, [1], [2], 3, [4]), Train(0, [5], [2], 3, [4]), Train(0, [1], [5], 3, [4]),
         Train(0, [1], [2], 5, [4]), Train(0, [1], [2], 3, [5]), Train(0, [1], [2], 3, []), Train(0, [], [], 0, []),
+        Bus(["a"]), Bus(["b"]), Bus(["a", "b"]), Bus(["b", "a"]), Bus(["a", Last(3)]), Bus(["a", First(3)]),
+        Places([[("a", 0)]], [[]]), Places([[("b", 0)]], [[]]), Places([[("a", 1)]], [[]]), Places([], []),
+        Places([[("a", 0)]], [[("last", 3)]]), Places([], [[("last", 3)]]),
     ]
 
 
@@ -56,6 +72,16 @@ class Interface(unittest.TestCase):
             for name, names in listed.items():
                 with self.subTest(name):
                     parameters = inspect.signature(getattr(module, name)).parameters.values()
+                    self.assertEqual([one.name for one in parameters], names)
+                    for one in parameters:
+                        self.assertEqual((one.kind, one.default), (one.POSITIONAL_OR_KEYWORD, one.empty))
+
+    def test_methods_stand_in_their_class_with_their_arguments_in_order(self):
+        for made, listed in METHODS.items():
+            for name, names in listed.items():
+                with self.subTest(name):
+                    self.assertIn(name, vars(made))
+                    parameters = list(inspect.signature(vars(made)[name]).parameters.values())[1:]
                     self.assertEqual([one.name for one in parameters], names)
                     for one in parameters:
                         self.assertEqual((one.kind, one.default), (one.POSITIONAL_OR_KEYWORD, one.empty))
@@ -90,6 +116,20 @@ class Interface(unittest.TestCase):
         self.assertIs(can_tell(times=[0, 2], row=row), False)
         self.assertEqual(count_pasts(end=1, begin=0, times=[0], row=row), 2)
 
+    def test_arguments_by_keyword_of_what_leads_finders_and_busses(self):
+        self.assertEqual(count_leading(most=3, numbers=[2], stream=[0, 1, 3]), 2)
+        self.assertEqual(least_leading(most=3, numbers=[2], stream=[0, 1, 3]), (("last", 3),))
+        self.assertEqual(told_times(Row([]), telling_stream(most=2)), telling_stream(2))
+        finder = Finder(most=1)
+        self.assertEqual(len(finder.ask()), 1)
+        finder.take_answer(times=finder.ask())
+        self.assertEqual(finder.known_form(), Normal((), 0))
+        bus = Bus(steps=["a", Last(2)])
+        self.assertEqual(told_by(streams=[("a", [0])], bus=bus), [2])
+        self.assertEqual(bus_places(bus=bus), Places(segments=[[("last", 2)]], inputs=[[("a", 2)]]))
+        self.assertIs(same_busses(other=bus, bus=bus), True)
+        self.assertIsNone(parting_inputs(other=bus, bus=bus))
+
     def test_fields_are_named_as_the_parameters(self):
         self.assertEqual(vars(Last(3)), {"q": 3})
         self.assertEqual(vars(First(3)), {"q": 3})
@@ -100,6 +140,8 @@ class Interface(unittest.TestCase):
         self.assertEqual(vars(Normal((("last", 3),), 4)), {"records": (("last", 3),), "delay": 4})
         self.assertEqual(vars(Train(0, [1], [2], 3, [4])),
                          {"first": 0, "head": (1,), "block": (2,), "rounds": 3, "end": (4,)})
+        self.assertEqual(vars(Bus(["a", Last(2)])), {"steps": ("a", Last(2))})
+        self.assertEqual(vars(Places([[("a", 0)]], [[]])), {"inputs": ((("a", 0),),), "segments": ((),)})
 
 
 class Arguments(unittest.TestCase):
@@ -162,6 +204,22 @@ class Arguments(unittest.TestCase):
         self.assertEqual((row, other, train, gaps, times), before)
         self.assertEqual(type(gaps), list)
 
+    def test_what_leads_finders_and_busses_change_no_argument(self):
+        stream, numbers, streams = [0, 1, 4], [0, 2], [["a", [0, 1]], ["b", [5]]]
+        bus, other = Bus(["a", Last(3), "b", First(4)]), Bus(["b", First(4), "a"])
+        before = copy.deepcopy((stream, numbers, streams, bus, other))
+        count_leading(stream, numbers, 9)
+        least_leading(stream, numbers, 9)
+        finder, answer = Finder(3), [7]
+        finder.ask()
+        finder.take_answer(answer)
+        answer.append(8)
+        told_by(bus, streams).clear()
+        bus_places(bus)
+        same_busses(bus, other)
+        parting_inputs(bus, other)
+        self.assertEqual((stream, numbers, streams, bus, other), before)
+
     def test_calls_that_raise_change_nothing(self):
         stream, given, row = [0, 2, 2], [Last(3), None], sample_row()
         form = Normal([["last", 3]], 2)
@@ -171,7 +229,10 @@ class Arguments(unittest.TestCase):
                                 (Row, [given]), (row_of, [form]), (is_contained, [Row([Limit(3)]), row]),
                                 (Train, [0, gaps, gaps, 0, gaps]), (event_at, [train, 99]), (can_tell, [row, stream]),
                                 (train_events, [Train(0, [], [1], 10 ** 4, [])]), (numbers_told, [row, train, -1]),
-                                (count_pasts, [row, stream, 0, 9]), (count_pasts, [row, [0], 0, 300])):
+                                (count_pasts, [row, stream, 0, 9]), (count_pasts, [row, [0], 0, 300]),
+                                (count_leading, [stream, gaps, 3]), (least_leading, [[0, 1], gaps, 3]),
+                                (Bus, [given]), (told_by, [Bus(["a"]), [["a", stream]]]),
+                                (parting_inputs, [Bus(["a", Last(41)]), Bus(["a"])])):
             with self.assertRaises(QuietError):
                 call(*arguments)
         self.assertEqual((stream, given, row, form), before)
@@ -189,6 +250,10 @@ class Arguments(unittest.TestCase):
         with self.assertRaises(BadTrain):
             train.__init__(1, [2], [3], 4, [0])
         self.assertEqual(train, sample_train())
+        bus = Bus(["a", Last(3)])
+        with self.assertRaises(errors.BadBus):
+            bus.__init__(["b", "b"])
+        self.assertEqual(bus, Bus(["a", Last(3)]))
 
     def test_lists_and_tuples_are_accepted_alike(self):
         stream = [0, 1, 5, 9]
@@ -202,6 +267,11 @@ class Arguments(unittest.TestCase):
         self.assertEqual(Train(0, [1], [2], 3, [4]), Train(0, (1,), (2,), 3, (4,)))
         self.assertEqual(can_tell(row, [8, 99]), can_tell(row, (8, 99)))
         self.assertEqual(count_pasts(row, [15, 25], 0, 40), count_pasts(row, (15, 25), 0, 40))
+        self.assertEqual(count_leading([0, 1], [0], 3), count_leading((0, 1), (0,), 3))
+        self.assertEqual(least_leading([0, 1], [0], 3), least_leading((0, 1), (0,), 3))
+        self.assertEqual(Bus(["a", Last(2)]), Bus(("a", Last(2))))
+        self.assertEqual(told_by(Bus(["a"]), [["a", [0]]]), told_by(Bus(("a",)), (("a", (0,)),)))
+        self.assertEqual(Places([[["a", 0]]], [[]]), Places(((("a", 0),),), ((),)))
 
     def test_strings_are_no_sequences(self):
         for call, error in ((lambda: Row(""), BadRow), (lambda: Row("ab"), BadRow),
@@ -210,7 +280,10 @@ class Arguments(unittest.TestCase):
                             (lambda: row_of(Normal("", 0)), BadForm), (lambda: row_of(Normal(("ab",), 0)), BadForm),
                             (lambda: Train(0, "", [], 0, []), BadTrain), (lambda: Train(0, [], "", 0, []), BadTrain),
                             (lambda: Train(0, [], [], 0, ""), BadTrain), (lambda: can_tell(Row([]), ""), BadStream),
-                            (lambda: count_pasts(Row([]), "", 0, 9), BadStream)):
+                            (lambda: count_pasts(Row([]), "", 0, 9), BadStream), (lambda: Bus("a"), errors.BadBus),
+                            (lambda: count_leading("", [], 3), BadStream),
+                            (lambda: least_leading([], "", 3), errors.BadNumbers),
+                            (lambda: told_by(Bus(["a"]), [("a", "")]), BadStream)):
             with self.assertRaises(error):
                 call()
         self.assertEqual(Normal("ab", 0).records, "ab")
@@ -229,6 +302,16 @@ class Results(unittest.TestCase):
                 found.append(None)
                 self.assertEqual(call(), kept)
         self.assertEqual(stream, [0, 1, 5, 9])
+
+    def test_returned_lists_of_busses_finders_and_telling_streams(self):
+        bus, other = Bus(["a", Last(3), "b", Last(3)]), Bus(["a", Delay(3), "b", Last(3)])
+        for call in (lambda: told_by(bus, [("a", [0, 9])]), lambda: telling_stream(3), Finder(3).ask,
+                     lambda: parting_inputs(bus, other), lambda: parting_inputs(bus, other)[1][1]):
+            found, kept = call(), call()
+            self.assertIs(type(found), list)
+            self.assertIsNot(found, kept)
+            found.append(None)
+            self.assertEqual(call(), kept)
 
     def test_told_objects_are_new_too(self):
         row = Row([])
@@ -255,6 +338,11 @@ class Results(unittest.TestCase):
             self.assertIs(can_tell(row, [0, 3]), True)
             self.assertIs(can_tell(row, []), True)
         self.assertIs(can_tell(Row([Last(3)]), [0, 2]), False)
+        self.assertIs(type(count_leading([0], [0], 3)), int)
+        self.assertEqual(repr(least_leading([0, 1, 3], [2], 3)), "(('last', 3),)")
+        self.assertIs(type(bus_places(Bus(["a"]))), Places)
+        self.assertIs(same_busses(Bus(["a"]), Bus(["a"])), True)
+        self.assertIs(same_busses(Bus(["a"]), Bus(["a", Last(2)])), False)
         for call in (same_rows, is_contained):
             self.assertIs(call(Row([Last(3)]), Row([Last(3)])), True)
             self.assertIs(call(Row([]), Row([Last(3)])), False)
@@ -267,7 +355,11 @@ class Results(unittest.TestCase):
                      lambda: idle_members(sample_row()), lambda: is_contained(Row([Last(3)]), Row([Last(2)])),
                      lambda: parting(sample_row(), Row([Limit(9)])), lambda: train_told(sample_row(), sample_train()),
                      lambda: numbers_told(sample_row(), sample_train(), 1), lambda: train_events(sample_train()),
-                     lambda: count_pasts(sample_row(), [9, 16], 0, 30), lambda: can_tell(sample_row(), [9, 16])):
+                     lambda: count_pasts(sample_row(), [9, 16], 0, 30), lambda: can_tell(sample_row(), [9, 16]),
+                     lambda: count_leading(stream, [0], 9), lambda: least_leading(stream, [0], 9),
+                     lambda: telling_stream(4), lambda: bus_places(Bus(["b", "a", Last(2)])),
+                     lambda: told_by(Bus(["a", Last(2)]), [("a", stream)]),
+                     lambda: parting_inputs(Bus(["a", Last(2), "b"]), Bus(["a", Last(2), "b", First(2)]))):
             self.assertEqual(call(), call())
 
     def test_everything_is_numbered_from_0(self):

@@ -2,9 +2,12 @@
 
 import unittest
 
-from quietrows.errors import BadMember, BadStream, Mixed
+from quietrows.busses import Bus, bus_places, same_busses, told_by
+from quietrows.errors import BadMember, BadStream, Large, Mixed
 from quietrows.far import numbers_told, train_told
+from quietrows.finding import Finder
 from quietrows.forms import idle_members, is_contained, normal_form, same_rows
+from quietrows.leading import count_leading, least_leading
 from quietrows.members import Delay, First, Last, Limit, check_stream
 from quietrows.parted import parting
 from quietrows.pasts import can_tell, count_pasts
@@ -74,5 +77,25 @@ class Examples(unittest.TestCase):
         self.assertEqual((amount_of(found) == 10 ** 30 + 1, event_at(found, 10 ** 30) == 6 * 10 ** 30,
                           numbers_told(row, train, 1).number), (True, True, 2))
 
-    def test_same_rows_where_busses_are_not(self):
-        self.assertIs(same_rows(Row([Last(3), Last(2)]), Row([Last(3), Delay(2)])), True)
+    def test_leading(self):
+        self.assertEqual((count_leading([0, 1, 3], [2], 3), least_leading([0, 1, 3], [2], 3)), (2, (("last", 3),)))
+
+    def test_finder(self):
+        with self.assertRaises(Large) as caught:
+            Finder(61)
+        self.assertEqual(caught.exception.count, 61)
+
+    def test_told_by(self):
+        streams = [("a", [0, 1]), ("b", [-1])]
+        self.assertEqual((told_by(Bus(["a", Last(2), "b", Last(4)]), streams),
+                          told_by(Bus(["a", Delay(2), "b", Last(4)]), streams)), ([3, 7], [7]))
+
+    def test_bus_places(self):
+        found = bus_places(Bus(["b", Delay(3), "a", Last(2), First(2), "c", Limit(9)]))
+        self.assertEqual((found.inputs, found.segments),
+                         (((("a", 2), ("b", 5)), (("c", 0),)), ((("last", 2),), (("limit", 9),))))
+
+    def test_same_busses(self):
+        rows = same_rows(Row([Last(3), Last(2)]), Row([Last(3), Delay(2)]))
+        self.assertEqual((rows, same_busses(Bus(["a", Last(3), "b", Last(2)]), Bus(["a", Last(3), "b", Delay(2)]))),
+                         (True, False))
