@@ -88,15 +88,16 @@ def widened(gaps, places, toward):
 
 
 def told_and_closed(members, stream):
-    """Return the numbers of the told events, and the places of the gaps that members close.
+    """Return the numbers of the told events, and for each member the places of the gaps that it closes.
 
-    There is one list of places for each member that closes gaps, among those that it gets.
+    These are places among the gaps that the member gets.
     """
     numbers = list(range(len(stream)))
     closed = []
     gaps = gaps_of(stream)
     least = min(gaps, default=0)
     for member in members:
+        places = []
         # Behind a record all gaps are as wide as its quiet, so that no idle member closes any.
         if len(gaps) > 0 and member.quiet() > least:
             places = member.closed(gaps)
@@ -107,7 +108,7 @@ def told_and_closed(members, stream):
             else:
                 gaps = gaps_of([stream[number] for number in numbers])
             least = min(gaps, default=0)
-            closed.append(places)
+        closed.append(places)
     return numbers, closed
 
 
@@ -118,7 +119,8 @@ def told_events(row, stream):
     firsts = list(range(len(stream)))
     for places in closed:
         # Whichever of the two events is told, the later one's stretch begins no more.
-        firsts = without_behind(firsts, places)
+        if len(places) > 0:
+            firsts = without_behind(firsts, places)
     # The stretches are the whole stream, so each ends where the next one begins.
     lasts = [first - 1 for first in firsts[1:]] + [len(stream) - 1]
     lag = lag_of(row.members)

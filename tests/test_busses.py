@@ -69,7 +69,8 @@ class Told(unittest.TestCase):
             chosen = random.Random(seed)
             names = ["a", "b", "c", "d", "longname"][:chosen.randint(1, 5)]
             steps = some_steps(chosen, names, chosen.randint(0, 8), 6)
-            streams = [(name, some_stream(chosen, 9, 5)) for name in chosen.sample(names, chosen.randint(0, len(names)))]
+            some = chosen.sample(names, chosen.randint(0, len(names)))
+            streams = [(name, some_stream(chosen, 9, 5)) for name in some]
             told = told_by(oracle.bus_made(steps), streams)
             self.assertEqual(told, oracle.bus_told(steps, streams), (steps, streams))
             self.assertIs(type(told), list)

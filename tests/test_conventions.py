@@ -4,18 +4,22 @@ import copy
 import inspect
 import unittest
 
-from quietrows import busses, errors, far, finding, forms, inlets, leading, members, parted, pasts, rows, trains
+from quietrows import busses, desk, errors, far, finding, forms, inlets, leading, live, members, parted, pasts
+from quietrows import quiettexts, rows, timing, trains
 from quietrows.busses import Bus, Places, bus_places, same_busses, told_by
+from quietrows.desk import Desk
 from quietrows.errors import BadForm, BadRow, BadStream, BadTrain, QuietError
 from quietrows.far import numbers_told, train_told
 from quietrows.finding import Finder
 from quietrows.forms import Normal, idle_members, is_contained, normal_form, row_of, same_rows
 from quietrows.inlets import parting_inputs
 from quietrows.leading import count_leading, least_leading, telling_stream
+from quietrows.live import Live
 from quietrows.members import Delay, First, Last, Limit, check_stream
 from quietrows.parted import parting
 from quietrows.pasts import can_tell, count_pasts
 from quietrows.rows import Row, Told, told_events, told_times
+from quietrows.timing import Timers
 from quietrows.trains import Train, amount_of, event_at, events_until, train_events
 
 INTERFACE = {
@@ -35,9 +39,18 @@ INTERFACE = {
     busses: {"Bus": ["steps"], "told_by": ["bus", "streams"], "Places": ["inputs", "segments"], "bus_places": ["bus"],
              "same_busses": ["bus", "other"]},
     inlets: {"parting_inputs": ["bus", "other"]},
+    live: {"patience": ["row"], "late_stream": ["row"], "certain_at": ["row", "stream", "number"],
+           "open_at": ["row", "stream", "moment"], "Live": ["row"]},
+    timing: {"Timers": ["index", "started", "stopped", "rung"], "row_timers": ["row", "stream"],
+             "train_timers": ["row", "train"]},
+    quiettexts: {"row_text": ["row"], "bus_text": ["bus"], "stream_text": ["stream"], "train_text": ["train"],
+                 "read_row": ["text"], "read_bus": ["text"], "read_stream": ["text"], "read_train": ["text"]},
+    desk: {"Desk": []},
 }
 METHODS = {
     Finder: {"ask": [], "take_answer": ["times"], "known_form": []},
+    Live: {"push": ["time"], "wait": ["time"], "moment_now": [], "open_events": [], "so_far": [], "undo": []},
+    Desk: {"tell": ["command"]},
 }
 
 
@@ -62,6 +75,7 @@ def samples():
         Bus(["a"]), Bus(["b"]), Bus(["a", "b"]), Bus(["b", "a"]), Bus(["a", Last(3)]), Bus(["a", First(3)]),
         Places([[("a", 0)]], [[]]), Places([[("b", 0)]], [[]]), Places([[("a", 1)]], [[]]), Places([], []),
         Places([[("a", 0)]], [[("last", 3)]]), Places([], [[("last", 3)]]),
+        Timers(1, 2, 3, 4), Timers(0, 2, 3, 4), Timers(1, 0, 3, 4), Timers(1, 2, 0, 4), Timers(1, 2, 3, 0),
     ]
 
 
@@ -142,6 +156,7 @@ class Interface(unittest.TestCase):
                          {"first": 0, "head": (1,), "block": (2,), "rounds": 3, "end": (4,)})
         self.assertEqual(vars(Bus(["a", Last(2)])), {"steps": ("a", Last(2))})
         self.assertEqual(vars(Places([[("a", 0)]], [[]])), {"inputs": ((("a", 0),),), "segments": ((),)})
+        self.assertEqual(vars(Timers(1, 2, 3, 4)), {"index": 1, "started": 2, "stopped": 3, "rung": 4})
 
 
 class Arguments(unittest.TestCase):

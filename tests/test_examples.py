@@ -3,15 +3,19 @@
 import unittest
 
 from quietrows.busses import Bus, bus_places, same_busses, told_by
-from quietrows.errors import BadMember, BadStream, Large, Mixed
+from quietrows.desk import Desk
+from quietrows.errors import BadMember, BadStream, BadText, Large, Mixed
 from quietrows.far import numbers_told, train_told
 from quietrows.finding import Finder
 from quietrows.forms import idle_members, is_contained, normal_form, same_rows
 from quietrows.leading import count_leading, least_leading
+from quietrows.live import Live, certain_at, patience
 from quietrows.members import Delay, First, Last, Limit, check_stream
 from quietrows.parted import parting
 from quietrows.pasts import can_tell, count_pasts
+from quietrows.quiettexts import read_row, row_text
 from quietrows.rows import Row, told_events, told_times
+from quietrows.timing import row_timers
 from quietrows.trains import Train, amount_of, event_at, events_until, train_events
 
 
@@ -99,3 +103,30 @@ class Examples(unittest.TestCase):
         rows = same_rows(Row([Last(3), Last(2)]), Row([Last(3), Delay(2)]))
         self.assertEqual((rows, same_busses(Bus(["a", Last(3), "b", Last(2)]), Bus(["a", Last(3), "b", Delay(2)]))),
                          (True, False))
+
+    def test_patience_and_moments(self):
+        self.assertEqual((patience(Row([Last(3), First(4), Last(6)])), certain_at(Row([Last(3), Last(6)]), [0, 5], 0),
+                          certain_at(Row([First(3), Last(5)]), [0, 2, 3], 0)), (7, 7, 2))
+
+    def test_live(self):
+        live = Live(Row([Last(3)]))
+        self.assertEqual((live.push(0), live.push(2), live.wait(4)), ([], [(0, False)], [(1, True)]))
+
+    def test_timers(self):
+        found = row_timers(Row([First(2), Last(3)]), [0, 1, 5, 7])
+        self.assertEqual([(one.index, one.started, one.stopped, one.rung) for one in found], [(1, 3, 1, 2)])
+
+    def test_row_text(self):
+        self.assertEqual(row_text(Row([Last(300), Limit(50), Delay(7)])), "last 300, limit 50, delay 7")
+
+    def test_read_row(self):
+        with self.assertRaises(BadText) as caught:
+            read_row("last 3, last")
+        self.assertEqual(caught.exception.place, 1)
+
+    def test_desk(self):
+        desk = Desk()
+        desk.tell("row r: last 3, last 2")
+        desk.tell("stream s: 0 1 5")
+        self.assertEqual((desk.tell("tell r s"), desk.tell("normal r"), desk.tell("show q")),
+                         (["6 10"], ["last 3, delay 2"], ["refused noname"]))

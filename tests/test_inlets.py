@@ -177,7 +177,8 @@ class Parting(unittest.TestCase):
     def test_streams_far_from_zero(self):
         steps = ["a", Last(3), Delay(HUGE), "b", Last(3), Delay(HUGE)]
         self.check(steps, ["a", Delay(3 + HUGE), "b", Last(3), Delay(HUGE)])
-        self.check(["a", First(4), Delay(HUGE), "b", First(4)], ["b", First(4), Delay(HUGE), "a", Delay(HUGE), First(4)])
+        self.check(["a", First(4), Delay(HUGE), "b", First(4)],
+                   ["b", First(4), Delay(HUGE), "a", Delay(HUGE), First(4)])
 
     def test_none_where_both_do_the_same(self):
         for steps, others in ((["a"], ["a"]), (["b", "a"], ["a", "b"]),

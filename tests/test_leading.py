@@ -149,7 +149,8 @@ class Leading(unittest.TestCase):
         self.assertEqual(least_leading(stream, [2], HUGE + 1), (("first", 6), ("last", HUGE + 1)))
         self.assertEqual(least_leading(stream, [0, 3], HUGE * 10), (("limit", 2 * HUGE + 1),))
         self.assertEqual(least_leading(stream, [0, 3], 2 * HUGE), (("last", 6), ("first", HUGE + 1)))
-        self.assertEqual(count_leading(stream, [0, 1, 2], 300), 2 * sum(4 ** (300 - one) for one in range(6, 301)) * 256)
+        self.assertEqual(count_leading(stream, [0, 1, 2], 300),
+                         2 * sum(4 ** (300 - one) for one in range(6, 301)) * 256)
 
     def test_each_least_row_tells_these_events_and_all_ways_lead(self):
         for stream in some_streams(30, 15, 40):
@@ -189,7 +190,8 @@ class Errors(unittest.TestCase):
     def test_bad_numbers_come_before_large(self):
         for call in (count_leading, least_leading):
             for numbers, place in ((None, -1), ("01", -1), (0, -1), ({}, -1), ([3], 0), ([-1], 0), ([0, 0], 1),
-                                   ([1, 0], 1), ([0, 1, 3], 2), ([False], 0), ([0, True], 1), ([None], 0), ((0, "1"), 1),
+                                   ([1, 0], 1), ([0, 1, 3], 2), ([False], 0), ([0, True], 1), ([None], 0),
+                                   ((0, "1"), 1),
                                    ([0, 1, 2, 3], 3), ([0, 3, 2], 1), ([2.0], 0)):
                 for most in (3, 301):
                     with self.subTest(numbers=numbers), self.assertRaises(BadNumbers) as caught:
