@@ -2,8 +2,8 @@
 
 A stream that leads to given times has one part before the first told event, one
 between each two of them, and one behind the last. The parts do not matter to one
-another, and how many ways there are for one depends on its length alone. So for
-each length up to the longest, Ways holds how many ways there are.
+another, and how many ways there are for one depends on its length alone. So Ways
+holds how many ways there are for each length up to the longest that matters.
 """
 
 from quietrows.errors import Large
@@ -40,7 +40,8 @@ def count_pasts(row, times, begin, end):
     records = records_of(row.members)
     if before < 0 or behind < 0 or not are_wide(gaps, records):
         return 0
-    ways = Ways(max([before, behind] + gaps) + 1)
+    longest = max([before, behind] + gaps)
+    ways = Ways(before, max(gaps + [min(quiet - 1, longest) for _, quiet in records[-1:]], default=0), behind)
     for kind, quiet in records:
         ways.add_record(kind, quiet)
     count = ways.before[before] * ways.behind[behind]
@@ -50,45 +51,57 @@ def count_pasts(row, times, begin, end):
 
 
 class Ways:
-    """For each length below a limit, the ways of the events before, between and behind told ones.
+    """For each length up to a greatest one, the ways of the events before, between and behind told ones.
 
     The length before is from the earliest time on to the first told event,
     the one behind from the last told event to the latest time.
     """
 
-    def __init__(self, many):
-        self.before = [1] * many
-        self.between = [0] + [1] * (many - 1)
-        self.behind = [1] * many
+    def __init__(self, before, between, behind):
+        self.before = [1] * (before + 1)
+        self.between = [0] + [1] * between
+        self.behind = [1] * (behind + 1)
+        # No told events so far come nearer to one another.
+        self.least = 1
 
     def add_record(self, kind, quiet):
         """Put a record behind the row, so that some of the events told so far are told no more."""
-        many = len(self.between)
-        # No length is greater, and a list cannot be made as long as a quiet may be.
-        quiet = min(quiet, many)
-        gaps = self.between[:quiet]
+        near = [(gap, self.between[gap]) for gap in range(self.least, min(quiet, len(self.between)))]
         if kind == "limit":
             # Told no more are all that come within the quiet behind a told one.
-            near = chains(gaps, quiet)
-            self.between = [0] * quiet + joined(near, self.between)[quiet:]
+            chains = chained([1] + [0] * (min(quiet, max(len(self.between), len(self.behind))) - 1), near)
+            dropped = [(length, many) for length, many in enumerate(chains) if many > 0]
+            self.between = joined(dropped, self.between, quiet)
+            self.behind = joined(dropped, self.behind, 0)
         else:
             # Told no more are those in chains of gaps below the quiet.
-            near = chains(gaps, many)
-            self.between = joined(near, [0] * quiet + self.between[quiet:])
-        if kind == "last":
-            self.before = joined(near, self.before)
-        else:
-            self.behind = joined(near, self.behind)
+            self.between = chained([0] * min(quiet, len(self.between)) + self.between[quiet:], near)
+            if kind == "last":
+                self.before = chained(self.before, near)
+            else:
+                self.behind = chained(self.behind, near)
+        self.least = quiet
 
 
-def joined(ways, others):
-    """Return the ways of two parts, one behind the other, for each length of the others."""
-    return [sum([one * other for one, other in zip(ways, others[length::-1])]) for length in range(len(others))]
+def chained(ways, near):
+    """Return the ways of a part behind chains of gaps, for each length; near has pairs of a gap and its ways."""
+    found = list(ways)
+    for length in range(len(ways)):
+        for gap, many in near:
+            if gap > length:
+                break
+            found[length] += many * found[length - gap]
+    return found
 
 
-def chains(gaps, many):
-    """Return the ways of chains of gaps, for each length below a limit."""
-    found = [1]
-    for _ in range(1, many):
-        found.append(sum([one * other for one, other in zip(gaps[1:], found[::-1])]))
+def joined(near, ways, begin):
+    """Return the ways of two parts, one behind the other, for each length from the beginning on, and 0 below."""
+    found = [0] * min(begin, len(ways))
+    for length in range(begin, len(ways)):
+        count = 0
+        for gap, many in near:
+            if gap > length:
+                break
+            count += many * ways[length - gap]
+        found.append(count)
     return found

@@ -136,6 +136,47 @@ class CountPasts(unittest.TestCase):
             self.assertGreater(count_pasts(row, [lag, 299 + lag], 0, 299), 0)
         self.assertLess(time.monotonic() - begin, 6)
 
+    def test_the_counts_of_all_told_times_add_up_to_all_streams_of_a_window(self):
+        begin = time.monotonic()
+        row = Row([Last(2), First(3), Limit(5), Last(7), First(9), Limit(11), Last(12)])
+        told = [[]] + [[one] for one in range(21, 43)]
+        told += [[one, two] for one in range(21, 43) for two in range(one + 12, 43)]
+        self.assertEqual(sum(count_pasts(row, times, 0, 21) for times in told), 2 ** 22)
+        self.assertLess(time.monotonic() - begin, 1)
+
+    def test_all_counts_add_up_also_for_other_rows_and_windows(self):
+        for seed in range(40):
+            chosen = random.Random(seed)
+            row = Row([chosen.choice((Last, First, Limit, Delay))(chosen.randint(1,
+                                                                                 12)) for _ in range(chosen.randint(1,
+                                                                                                                    6))])
+            end = chosen.randint(0, 20)
+            lag, least = normal_form(row).delay, max([1] + [quiet for _, quiet in normal_form(row).records])
+            told = levels = [[]]
+            while levels:
+                levels = [times + [one] for times in levels
+                          for one in range(times[-1] + least if times else lag, lag + end + 1)]
+                told = told + levels
+                if len(told) > 5000:
+                    break
+            if not levels:
+                self.assertEqual(sum(count_pasts(row, times, 0, end) for times in told), 2 ** (end + 1))
+
+    def test_small_windows_many_times_are_answered_soon(self):
+        row = Row([Last(2), First(3), Limit(5), Last(7), First(9), Limit(11), Last(12)])
+        begin = time.monotonic()
+        for turn in range(3000):
+            count_pasts(row, [21 + turn % 10], 0, 21)
+        self.assertLess(time.monotonic() - begin, 1)
+        begin = time.monotonic()
+        for kinds in ((Last,), (First,), (Limit,), (Last, First, Limit)):
+            for quiets in (range(2, 22), range(100, 300, 10)):
+                row = Row([kinds[place % len(kinds)](quiet) for place, quiet in enumerate(quiets)])
+                lag = normal_form(row).delay
+                for times in ([150 + lag], [lag, 299 + lag]):
+                    count_pasts(row, times, 0, 299)
+        self.assertLess(time.monotonic() - begin, 1)
+
     def test_bad_streams_come_before_large(self):
         for end in (5, 300, HUGE):
             for times, place in ((None, -1), ("12", -1), (5, -1), ({}, -1), ([True], 0), ([0, None], 1), ((1, 1), 1),
