@@ -40,8 +40,9 @@ def count_pasts(row, times, begin, end):
     records = records_of(row.members)
     if before < 0 or behind < 0 or not are_wide(gaps, records):
         return 0
-    longest = max([before, behind] + gaps)
-    ways = Ways(before, max(gaps + [min(quiet - 1, longest) for _, quiet in records[-1:]], default=0), behind)
+    # Between two told events, lengths below a quiet matter to records, and the gaps of the times at last.
+    below = records[-1][1] - 1 if len(records) > 0 else 0
+    ways = Ways(before, max(gaps + [min(below, max(before, behind))]), behind)
     for kind, quiet in records:
         ways.add_record(kind, quiet)
     count = ways.before[before] * ways.behind[behind]

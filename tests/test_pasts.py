@@ -147,9 +147,8 @@ class CountPasts(unittest.TestCase):
     def test_all_counts_add_up_also_for_other_rows_and_windows(self):
         for seed in range(40):
             chosen = random.Random(seed)
-            row = Row([chosen.choice((Last, First, Limit, Delay))(chosen.randint(1,
-                                                                                 12)) for _ in range(chosen.randint(1,
-                                                                                                                    6))])
+            kinds = chosen.choices((Last, First, Limit, Delay), k=chosen.randint(1, 6))
+            row = Row([kind(chosen.randint(1, 12)) for kind in kinds])
             end = chosen.randint(0, 20)
             lag, least = normal_form(row).delay, max([1] + [quiet for _, quiet in normal_form(row).records])
             told = levels = [[]]
