@@ -29,6 +29,56 @@ def fates(pairs, stream, moment, beyond=0):
     return found
 
 
+def one_moment_later(pairs, state, event):
+    """What each member holds one moment later, and what the last one tells then.
+
+    An event is None for none at all, True for the one that is asked for, and False for any other one.
+    A Last holds for how long its timer still runs, and for which event; the others hold how long ago the event
+    was that matters to them, but no longer than their quiet.
+    """
+    found = []
+    for (kind, quiet), one in zip(pairs, state):
+        if kind == "last":
+            rings = one is not None and one[0] == 1
+            out = one[1] if rings else None
+            one = None if one is None or rings else (one[0] - 1, one[1])
+            found.append(one if event is None else (quiet, event))
+        else:
+            since = min(one + 1, quiet)
+            out = event if since == quiet else None
+            found.append(0 if event is not None and (kind == "first" or since == quiet) else since)
+        event = out
+    return tuple(found), event
+
+
+def holds_it(state):
+    return any(isinstance(one, tuple) and one[1] for one in state)
+
+
+def fate_by_moments(pairs, stream, moment, asked):
+    """Whether the event at the time asked for is told, over all that may come: walked moment by moment."""
+    state = tuple(None if kind == "last" else quiet for kind, quiet in pairs)
+    for now in range(stream[0], moment + 1):
+        state, out = one_moment_later(pairs, state, now == asked if now in stream else None)
+        if out:
+            return {True}
+    found = set() if holds_it(state) else {False}
+    states = {state} if holds_it(state) else set()
+    while states and len(found) < 2:
+        later = set()
+        for state in states:
+            for event in (None, False):
+                after, out = one_moment_later(pairs, state, event)
+                if out:
+                    found.add(True)
+                elif holds_it(after):
+                    later.add(after)
+                else:
+                    found.add(False)
+        states = later
+    return found
+
+
 def some_pairs(chosen, most, greatest):
     """Members, most of them records, with a patience that can be gone through."""
     while True:
@@ -101,6 +151,46 @@ class Moments(unittest.TestCase):
                 stream = some_stream(chosen, 5)
                 for moment in range(stream[-1], stream[-1] + 5):
                     self.check(pairs, stream, moment)
+
+    def check_by_moments(self, pairs, stream, moment):
+        found = [number for number, event in enumerate(stream)
+                 if event <= moment and len(fate_by_moments(pairs, stream, moment, event)) > 1]
+        self.assertEqual(open_at(oracle.made(pairs), stream, moment), found, (pairs, stream, moment))
+
+    def test_an_event_is_certain_as_no_other_one_can_be_told_at_one_moment(self):
+        # If 3 is not told, the next event that the second member tells is at 5, 7, 9 .., and not at 6.
+        row = Row([First(2), Last(3), First(6), Last(7)])
+        self.assertEqual(open_at(row, [0, 3], 2), [0])
+        self.assertEqual(open_at(row, [0, 3], 3), [])
+        self.assertEqual(certain_at(row, [0, 3], 0), 3)
+        for one, two in product(KINDS, repeat=2):
+            for low, wide, quiet in product((2, 3), (1, 2), (4, 5, 6, 7, 8)):
+                pairs = [(one, low), ("last", low + wide), (two, quiet + wide), ("last", quiet + wide + 1)]
+                for gaps in ((3,), (4,), (5,), (6,), (3, 4), (5, 3), (7, 4)):
+                    stream = [sum(gaps[:place]) for place in range(len(gaps) + 1)]
+                    for moment in (stream[-1], stream[-1] + 1, stream[-1] + 2):
+                        self.check_by_moments(pairs, stream, moment)
+
+    def test_chains_of_gaps_that_cannot_end_everywhere(self):
+        for low, wide in ((3, 1), (3, 2), (4, 1), (4, 2), (4, 3), (5, 2), (6, 3)):
+            for kind in ("first", "limit"):
+                for gap in (low + wide, low + wide + 1):
+                    for quiet in range(gap + low + 1, gap + 4 * low):
+                        pairs = [(kind, low), ("last", low + wide), ("first", quiet), ("last", quiet + 1)]
+                        for moment in (gap + low - 1, gap + low):
+                            self.check_by_moments(pairs, [0, gap], moment)
+
+    def test_rows_of_greater_quiets_moment_by_moment(self):
+        for seed in range(600):
+            chosen = random.Random(seed)
+            quiets = sorted(chosen.sample(range(2, 15), chosen.randint(2, 4)))
+            if chosen.random() < 0.5:
+                quiets = sorted(set(quiets) | {quiet + 1 for quiet in quiets})[:5]
+            pairs = [(chosen.choice(KINDS + ("last",)), quiet) for quiet in quiets]
+            stream = [0]
+            for _ in range(chosen.randint(0, 4)):
+                stream.append(stream[-1] + max(1, chosen.choice(quiets) + chosen.choice((-1, 0, 1))))
+            self.check_by_moments(pairs, stream, stream[-1] + chosen.randint(0, 5))
 
     def test_an_event_is_certain_though_nobody_knows_which_of_two_others_is_told(self):
         # Of the last two events one is told, or a later one: in any case the first of three is not.
